@@ -1,0 +1,189 @@
+"""What the tests share: packets made and read in another way than the program does, and lists of calls.
+
+The field, the sum and the parity are written here bit by bit and coefficient by coefficient, straight from
+the document's words, so that a slip in the program's quicker ways shows.
+"""
+
+import random
+
+from sureline.ends import answers
+
+BEGIN, PUT, FINISH, TICK, CAME, TAKE, TELL = range(1, 8)
+ANSWER, BYTES, END, QUESTION = range(4)
+TOLD_OF = ("unanswered", "pieces", "ready", "told", "complete", "dropped", "mended")
+
+
+def product(a, b):
+    result = 0
+    while b:
+        if b & 1:
+            result ^= a
+        b >>= 1
+        a <<= 1
+        if a & 0x100:
+            a ^= 0x11B
+    return result
+
+
+def power_of_three(exponent):
+    result = 1
+    for _ in range(exponent):
+        result = product(result, 3)
+    return result
+
+
+POINTS = [power_of_three(i) for i in range(16)]
+PRODUCTS = [[product(a, b) for b in range(256)] for a in range(256)]
+
+
+def generator():
+    coefficients = [1]
+    for point in POINTS:
+        longer = coefficients + [0]
+        for i, c in enumerate(coefficients):
+            longer[i + 1] ^= PRODUCTS[c][point]
+        coefficients = longer
+    return coefficients
+
+
+GENERATOR = generator()
+
+
+def parity(octets):
+    row = list(octets) + [0] * 16
+    for i in range(len(octets)):
+        lead = PRODUCTS[row[i]]
+        for j, c in enumerate(GENERATOR):
+            row[i + j] ^= lead[c]
+    return row[-16:]
+
+
+def is_right(row):
+    """0 at the powers 0 to 15 of 3."""
+    for point in POINTS:
+        value = 0
+        for octet in row:
+            value = PRODUCTS[value][point] ^ octet
+        if value:
+            return False
+    return 16 <= len(row) <= 255
+
+
+def crc(octets):
+    c = 2 ** 32 - 1
+    for octet in octets:
+        c ^= octet
+        for _ in range(8):
+            c = (c >> 1) ^ 0x82F63B78 if c & 1 else c >> 1
+    return c ^ (2 ** 32 - 1)
+
+
+def packet(kind, number=0, wanted=0, room=4096, octets=(), name=0, off=0):
+    """The row that a packet is sent as; off is added to its sum, to make a wrong one."""
+    body = list(name.to_bytes(4, "little")) + [kind]
+    body += list(number.to_bytes(8, "little")) + list(wanted.to_bytes(8, "little"))
+    body += list(room.to_bytes(2, "little")) + list(octets)
+    body += list(((crc(body) + off) % 2 ** 32).to_bytes(4, "little"))
+    return body + parity(body)
+
+
+def read(row):
+    """A packet's name, kind, number, wanted number, room and bytes; its sum and parity are to be right."""
+    assert is_right(row), "not a right row"
+    body = row[:-20]
+    assert int.from_bytes(bytes(row[-20:-16]), "little") == crc(body), "not the right sum"
+    return (int.from_bytes(bytes(body[0:4]), "little"), body[4], int.from_bytes(bytes(body[5:13]), "little"),
+            int.from_bytes(bytes(body[13:21]), "little"), int.from_bytes(bytes(body[21:23]), "little"), body[23:])
+
+
+def changed(row, places, how=0xFF):
+    return [octet ^ how if place in places else octet for place, octet in enumerate(row)]
+
+
+def spoilt(row, rng, most):
+    """The row with up to so many bytes changed, anywhere."""
+    places = rng.sample(range(len(row)), rng.randint(0, min(most, len(row))))
+    return [octet ^ rng.randint(1, 255) if place in places else octet for place, octet in enumerate(row)]
+
+
+def pattern(size, seed=1):
+    rng = random.Random(seed)
+    return [rng.randrange(256) for _ in range(size)]
+
+
+def begin(end, name):
+    return [BEGIN, end, name]
+
+
+def put(end, octets):
+    return [PUT, end, len(octets)] + list(octets)
+
+
+def finish(end):
+    return [FINISH, end]
+
+
+def tick(end):
+    return [TICK, end]
+
+
+def came(end, octets):
+    return [CAME, end, len(octets)] + list(octets)
+
+
+def take(end, most):
+    return [TAKE, end, most]
+
+
+def tell(end):
+    return [TELL, end]
+
+
+def flat(calls):
+    return [number for call in calls for number in call]
+
+
+def parted(given):
+    """The answers, one a call."""
+    parts = []
+    at = 0
+    while at < len(given):
+        size = given[at]
+        parts.append(given[at + 1:at + 1 + size])
+        assert len(parts[-1]) == size, "an answer is cut short"
+        at += 1 + size
+    return parts
+
+
+def run(*calls):
+    parts = parted(answers(flat(calls)))
+    assert len(parts) == len(calls), "not an answer to each call"
+    return parts
+
+
+def last(*calls):
+    return run(*calls)[-1]
+
+
+def rows_of(answer):
+    """The rows that a tick answered."""
+    rows = []
+    at = 1
+    while at < len(answer):
+        size = answer[at]
+        rows.append(answer[at + 1:at + 1 + size])
+        at += 1 + size
+    assert len(rows) == answer[0] and at == len(answer), "a tick's rows don't fit its count"
+    return rows
+
+
+def sent(*calls):
+    """The packets that the last of the calls, a tick, sends, read."""
+    return [read(row) for row in rows_of(last(*calls))]
+
+
+def told(*calls, end=0):
+    """What's told of an end behind these calls."""
+    answer = last(*calls, tell(end))
+    assert answer[:2] == [0, 7] and len(answer) == 9, answer
+    return dict(zip(TOLD_OF, answer[2:]))
