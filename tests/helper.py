@@ -144,7 +144,7 @@ def flat(calls):
 
 
 def parted(given):
-    """The answers, one a call."""
+    """Rows that lie one behind another, each with its count before it: so do the answers, one a call."""
     parts = []
     at = 0
     while at < len(given):
@@ -166,14 +166,9 @@ def last(*calls):
 
 
 def rows_of(answer):
-    """The rows that a tick answered."""
-    rows = []
-    at = 1
-    while at < len(answer):
-        size = answer[at]
-        rows.append(answer[at + 1:at + 1 + size])
-        at += 1 + size
-    assert len(rows) == answer[0] and at == len(answer), "a tick's rows don't fit its count"
+    """The rows that a tick answered, which lie as answers do."""
+    rows = parted(answer[1:])
+    assert len(rows) == answer[0], "a tick's rows don't fit its count"
     return rows
 
 
