@@ -4,11 +4,24 @@ MODULUS = 0x11B
 ORDER = 255
 
 
-def three_times(octet):
-    doubled = octet * 2
-    if doubled > 255:
-        doubled = doubled ^ MODULUS
-    return doubled ^ octet
+def doubled(octet):
+    twice = octet * 2
+    if twice > 255:
+        return twice ^ MODULUS
+    return twice
+
+
+# Bit by bit, as the field is told: for one product alone the tables below aren't worth making.
+def product_of(a, b):
+    total = 0
+    shifted = a
+    rest = b
+    while rest > 0:
+        if rest % 2 == 1:
+            total = total ^ shifted
+        shifted = doubled(shifted)
+        rest = rest // 2
+    return total
 
 
 # Each byte but 0 is a power of 3, so a product is a sum of exponents: much faster than bit by bit.
@@ -20,7 +33,7 @@ class Field:
         for exponent in range(ORDER):
             self.powers.append(octet)
             self.logs[octet] = exponent
-            octet = three_times(octet)
+            octet = product_of(octet, 3)
 
     def power(self, exponent):
         return self.powers[exponent % ORDER]

@@ -12,6 +12,21 @@ BEGIN, PUT, FINISH, TICK, CAME, TAKE, TELL = range(1, 8)
 ANSWER, BYTES, END, QUESTION = range(4)
 TOLD_OF = ("unanswered", "pieces", "ready", "told", "complete", "dropped", "mended")
 
+# The end of no bytes at all, under the name 0, to the last byte.
+KNOWN_END = [0, 0, 0, 0, 2, 0, 0, 0, 0, 0, 0, 0, 0, 0, 0, 0, 0, 0, 0, 0, 0, 0, 16,
+             181, 145, 199, 32,
+             82, 236, 227, 117, 105, 221, 220, 205, 60, 183, 228, 17, 21, 163, 114, 230]
+
+
+class Fixed(list):
+    """A list that can't be changed, not for a while either."""
+
+    def refuse(self, *args, **kwargs):
+        raise AssertionError("what was handed in is changed")
+
+    append = extend = insert = pop = remove = clear = sort = reverse = refuse
+    __setitem__ = __delitem__ = __iadd__ = __imul__ = refuse
+
 
 def product(a, b):
     result = 0

@@ -4,18 +4,8 @@ import time
 import unittest
 
 import sureline.ends
-from tests.helper import (ANSWER, BYTES, END, QUESTION, answers, begin, came, changed, finish, flat, packet,
-                          parted, pattern, put, rows_of, run, take, tell, tick)
-
-
-class Fixed(list):
-    """A list that can't be changed, not for a while either."""
-
-    def refuse(self, *args, **kwargs):
-        raise AssertionError("what was handed in is changed")
-
-    append = extend = insert = pop = remove = clear = sort = reverse = refuse
-    __setitem__ = __delitem__ = __iadd__ = __imul__ = refuse
+from tests.helper import (ANSWER, BYTES, END, QUESTION, Fixed, answers, begin, came, changed, finish, flat,
+                          packet, parted, pattern, put, rows_of, run, take, tell, tick)
 
 
 def every_call():

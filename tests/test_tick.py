@@ -2,13 +2,8 @@
 
 import unittest
 
-from tests.helper import (ANSWER, BYTES, END, QUESTION, answers, begin, came, finish, flat, last, packet, parted,
-                          pattern, put, read, rows_of, run, sent, take, tick, told)
-
-# The end of no bytes at all, under the name 0, to the last byte.
-KNOWN_END = [0, 0, 0, 0, 2, 0, 0, 0, 0, 0, 0, 0, 0, 0, 0, 0, 0, 0, 0, 0, 0, 0, 16,
-             181, 145, 199, 32,
-             82, 236, 227, 117, 105, 221, 220, 205, 60, 183, 228, 17, 21, 163, 114, 230]
+from tests.helper import (ANSWER, BYTES, END, KNOWN_END, QUESTION, answers, begin, came, finish, flat, last,
+                          packet, parted, pattern, put, read, rows_of, run, sent, take, tick, told)
 
 
 def answer(wanted, room=0):
