@@ -4,8 +4,6 @@ The field, the sum and the parity are written here bit by bit and coefficient by
 the document's words, so that a slip in the program's quicker ways shows.
 """
 
-import random
-
 from sureline.ends import answers
 
 BEGIN, PUT, FINISH, TICK, CAME, TAKE, TELL = range(1, 8)
@@ -16,6 +14,31 @@ TOLD_OF = ("unanswered", "pieces", "ready", "told", "complete", "dropped", "mend
 KNOWN_END = [0, 0, 0, 0, 2, 0, 0, 0, 0, 0, 0, 0, 0, 0, 0, 0, 0, 0, 0, 0, 0, 0, 16,
              181, 145, 199, 32,
              82, 236, 227, 117, 105, 221, 220, 205, 60, 183, 228, 17, 21, 163, 114, 230]
+
+
+class Draw:
+    """Numbers that look like any others, and are the same at each run: there's no random source behind them."""
+
+    def __init__(self, seed):
+        self.state = seed
+        self.below(1)
+
+    def below(self, bound):
+        self.state = (self.state * 6364136223846793005 + 1442695040888963407) % 2 ** 64
+        return (self.state >> 32) % bound
+
+    def between(self, low, high):
+        return low + self.below(high - low + 1)
+
+    def chance(self, percent):
+        return self.below(100) < percent
+
+    def one_of(self, choices):
+        return choices[self.below(len(choices))]
+
+    def some_of(self, choices, count):
+        left = list(choices)
+        return [left.pop(self.below(len(left))) for _ in range(count)]
 
 
 class Fixed(list):
@@ -115,15 +138,22 @@ def changed(row, places, how=0xFF):
     return [octet ^ how if place in places else octet for place, octet in enumerate(row)]
 
 
-def spoilt(row, rng, most):
+def altered(row, places, draw):
+    """The row with the bytes at these places changed, each by another amount."""
+    bad = list(row)
+    for place in places:
+        bad[place] ^= draw.between(1, 255)
+    return bad
+
+
+def spoilt(row, draw, most):
     """The row with up to so many bytes changed, anywhere."""
-    places = rng.sample(range(len(row)), rng.randint(0, min(most, len(row))))
-    return [octet ^ rng.randint(1, 255) if place in places else octet for place, octet in enumerate(row)]
+    return altered(row, draw.some_of(range(len(row)), draw.below(min(most, len(row)) + 1)), draw)
 
 
 def pattern(size, seed=1):
-    rng = random.Random(seed)
-    return [rng.randrange(256) for _ in range(size)]
+    draw = Draw(seed)
+    return [draw.below(256) for _ in range(size)]
 
 
 def begin(end, name):

@@ -1,10 +1,9 @@
 """Point 5: what comes, whether it's a packet, and what it does."""
 
-import random
 import unittest
 
-from tests.helper import (ANSWER, BYTES, END, QUESTION, begin, came, changed, crc, finish, is_right, last, packet,
-                          parity, pattern, put, run, sent, spoilt, take, tell, tick, told)
+from tests.helper import (ANSWER, BYTES, END, QUESTION, Draw, altered, begin, came, changed, crc, finish, is_right,
+                          last, packet, parity, pattern, put, run, sent, spoilt, take, tell, tick, told)
 
 
 def piece(number, octets, **more):
@@ -104,15 +103,15 @@ class Rows(unittest.TestCase):
 
 class Mending(unittest.TestCase):
     def test_up_to_eight_changed_bytes_and_nine(self):
-        rng = random.Random(5)
+        draw = Draw(5)
         for size in (1, 2, 50, 189, 190):
             row = packet(BYTES, octets=pattern(size))
             for count in range(9):
-                bad = changed(row, rng.sample(range(len(row)), count), rng.randint(1, 255))
+                bad = changed(row, draw.some_of(range(len(row)), count), draw.between(1, 255))
                 self.assertEqual(run(came(0, bad), tell(0), take(0, 999)),
                                  [[0], [0, 7, 0, 0, size, 0, 0, 0, count], [size, size] + pattern(size)])
             for count in (9, 10, 16, 40):
-                bad = changed(row, rng.sample(range(len(row)), count), rng.randint(1, 255))
+                bad = changed(row, draw.some_of(range(len(row)), count), draw.between(1, 255))
                 self.assertEqual(run(came(0, bad), tell(0)), [[-6], [0, 7, 0, 0, 0, 0, 0, 1, 0]])
 
     def test_wherever_the_changed_bytes_stand(self):
@@ -126,11 +125,11 @@ class Mending(unittest.TestCase):
                 self.assertEqual(last(came(0, changed(row, range(at, at + 9), 0x5A))), [-6])
 
     def test_nine_changed_bytes_of_the_parity(self):
-        rng = random.Random(8)
+        draw = Draw(8)
         for count in list(range(9, 17)) * 8:
             row = packet(QUESTION) if count % 2 else packet(BYTES, octets=pattern(count * 11))
-            places = rng.sample(range(len(row) - 16, len(row)), count)
-            bad = [octet ^ rng.randint(1, 255) if at in places else octet for at, octet in enumerate(row)]
+            places = draw.some_of(range(len(row) - 16, len(row)), count)
+            bad = altered(row, places, draw)
             self.assertEqual(run(came(0, bad), tell(0)), [[-6], [0, 7, 0, 0, 0, 0, 0, 1, 0]])
 
     def test_nine_changed_bytes_whose_places_could_be_found(self):
@@ -145,17 +144,17 @@ class Mending(unittest.TestCase):
         self.assertEqual(run(came(0, bad), tell(0)), [[0], [0, 7, 0, 0, 190, 0, 0, 0, 8]])
 
     def test_changes_by_every_amount(self):
-        rng = random.Random(6)
+        draw = Draw(6)
         for amount in range(1, 256):
-            row = packet(BYTES, octets=pattern(rng.randint(1, 190), amount))
-            bad = changed(row, rng.sample(range(len(row)), 8), amount)
+            row = packet(BYTES, octets=pattern(draw.between(1, 190), amount))
+            bad = changed(row, draw.some_of(range(len(row)), 8), amount)
             self.assertEqual(run(came(0, bad), take(0, 999))[1][2:], row[23:-20])
 
     def test_rows_that_are_mended_as_if_by_chance(self):
-        rng = random.Random(7)
+        draw = Draw(7)
         for size in [1] * 20 + list(range(1, 191, 5)):
-            row = packet(BYTES, octets=pattern(size, rng.randint(0, 99)))
-            self.assertEqual(run(came(0, spoilt(row, rng, 8)), take(0, 999))[1][2:], row[23:-20])
+            row = packet(BYTES, octets=pattern(size, draw.between(0, 99)))
+            self.assertEqual(run(came(0, spoilt(row, draw, 8)), take(0, 999))[1][2:], row[23:-20])
 
     def test_a_mended_row_may_yet_be_no_packet(self):
         for row in (packet(QUESTION, off=1), packet(QUESTION, name=3), packet(9), packet(QUESTION, octets=[1])):
@@ -171,7 +170,7 @@ class Mending(unittest.TestCase):
         self.assertEqual(last(came(0, changed(packet(QUESTION), [0], 1))), [0])
         self.assertEqual(last(came(0, changed(packet(QUESTION, name=1), [0], 1))), [-6])
 
-    def test_a_random_row_is_no_packet(self):
+    def test_a_row_of_any_bytes_is_no_packet(self):
         for size in range(0, 256, 3):
             self.assertEqual(last(came(0, pattern(size, size))), [-6])
 

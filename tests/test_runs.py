@@ -1,17 +1,17 @@
 """Runs between the two ends over a line that loses, doubles, delays, mixes and changes packets."""
 
-import random
 import unittest
 
 from sureline.ends import Link
-from tests.helper import (answers, begin, came, finish, flat, parted, pattern, put, rows_of, spoilt, take, tell, tick)
+from tests.helper import (Draw, answers, begin, came, finish, flat, parted, pattern, put, rows_of, spoilt, take, tell,
+                          tick)
 
 
 class Run:
     """The two ends of one link, and the packets between them; every call and its answer is written down."""
 
     def __init__(self, seed, name):
-        self.rng = random.Random(seed)
+        self.draw = Draw(seed)
         self.link = Link()
         self.calls = []
         self.given = []
@@ -47,12 +47,12 @@ class Run:
         rows = self.under_way[end]
         if not rows:
             return
-        at = self.rng.randrange(len(rows)) if line.mixes else 0
-        row = rows[at] if self.rng.random() < line.doubles else rows.pop(at)
-        if self.rng.random() < line.loses:
+        at = self.draw.below(len(rows)) if line.mixes else 0
+        row = rows[at] if self.draw.chance(line.doubles) else rows.pop(at)
+        if self.draw.chance(line.loses):
             return
-        if self.rng.random() < line.changes:
-            row = spoilt(row, self.rng, 12)
+        if self.draw.chance(line.changes):
+            row = spoilt(row, self.draw, 12)
         self.call(came(end, row))
 
     def deliver_all(self):
@@ -63,7 +63,9 @@ class Run:
 
 
 class Line:
-    def __init__(self, loses=0.0, doubles=0.0, changes=0.0, mixes=False):
+    """Of each hundred packets so many are lost, come again, are changed."""
+
+    def __init__(self, loses=0, doubles=0, changes=0, mixes=False):
         self.loses = loses
         self.doubles = doubles
         self.changes = changes
@@ -83,17 +85,17 @@ class Runs(unittest.TestCase):
             self.assertLessEqual(tells[2], 4096)
 
     def step(self, run, line):
-        rng = run.rng
-        end = rng.randrange(2)
-        choice = rng.randrange(12)
+        draw = run.draw
+        end = draw.below(2)
+        choice = draw.below(12)
         if choice == 0:
-            run.put_some(end, pattern(rng.choice([0, 1, 5, 190, 191, 700, 3000]), rng.random()))
+            run.put_some(end, pattern(draw.one_of([0, 1, 5, 190, 191, 700, 3000]), draw.below(1000)))
         elif choice < 5:
             run.tick(end)
         elif choice < 11:
             run.deliver(end, line)
         else:
-            run.take_some(end, rng.choice([0, 1, 50, 189, 190, 2000, 2 ** 64 - 1]))
+            run.take_some(end, draw.one_of([0, 1, 50, 189, 190, 2000, 2 ** 64 - 1]))
 
     def all_comes(self, run):
         """Nothing is lost any more: all comes, and all that has come is told."""
@@ -133,11 +135,11 @@ class Runs(unittest.TestCase):
 
     def test_packets_are_lost(self):
         for seed in range(10, 16):
-            self.run_over(Line(loses=0.4), seed)
+            self.run_over(Line(loses=40), seed)
 
     def test_packets_come_twice_or_late(self):
         for seed in range(20, 26):
-            self.run_over(Line(doubles=0.6), seed)
+            self.run_over(Line(doubles=60), seed)
 
     def test_packets_come_in_another_order(self):
         for seed in range(30, 36):
@@ -145,11 +147,11 @@ class Runs(unittest.TestCase):
 
     def test_packets_are_changed(self):
         for seed in range(40, 46):
-            self.run_over(Line(changes=0.6), seed)
+            self.run_over(Line(changes=60), seed)
 
     def test_all_of_it(self):
         for seed in range(50, 60):
-            self.run_over(Line(loses=0.25, doubles=0.3, changes=0.3, mixes=True), seed)
+            self.run_over(Line(loses=25, doubles=30, changes=30, mixes=True), seed)
 
     def test_a_line_that_was_dead(self):
         run = Run(60, 1)
