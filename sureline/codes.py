@@ -1,10 +1,11 @@
-"""What stands by itself, without an end: a product in the field of bytes, and the parity behind a row."""
+"""What stands by itself, without an end: products, and rows of bytes made right, mended and summed."""
 
 from sureline.field import product_of
-from sureline.rows import PARITY, Code
+from sureline.rows import LONGEST_ROW, PARITY, Code
+from sureline.sums import crc_of
 
 HIGHEST_BYTE = 255
-LONGEST_FRONT = 239
+LONGEST_SUMMED = 65536
 
 
 def times(a, b):
@@ -14,6 +15,22 @@ def times(a, b):
 
 
 def parity(octets):
-    if len(octets) > LONGEST_FRONT:
+    if len(octets) > LONGEST_ROW - PARITY:
         return [-1]
     return [0, PARITY] + Code().parity_of(octets)
+
+
+def mend(octets):
+    if len(octets) < PARITY or len(octets) > LONGEST_ROW:
+        return [-1]
+    mended = Code().mend_row(octets)
+    if mended is None:
+        return [-6]
+    right = mended[1]
+    return [mended[0], len(right)] + right
+
+
+def sum_of(octets):
+    if len(octets) > LONGEST_SUMMED:
+        return [-1]
+    return [crc_of(octets)]

@@ -2,9 +2,8 @@
 
 from sureline.packets import ANSWER, Packet, packet_of, row_of
 from sureline.receiving import Receiving
+from sureline.rows import LONGEST_ROW
 from sureline.sending import Sending
-
-LONGEST_ROW = 255
 
 
 class LinkEnd:

@@ -2,6 +2,7 @@
 
 from sureline.field import Field
 
+LONGEST_ROW = 255
 PARITY = 16
 PLACES = 8
 

@@ -1,9 +1,10 @@
 """What the tests share: packets made and read in another way than the program does, and lists of calls.
 
 The field, the sum and the parity are written here bit by bit and coefficient by coefficient, straight from
-the document's words, so that a slip in the program's quicker ways shows.
+the document's words, so that a slip in the program's quicker ways shows; rows are mended by solving equations.
 """
 
+from sureline import codes
 from sureline.ends import answers
 
 BEGIN, PUT, FINISH, TICK, CAME, TAKE, TELL = range(1, 8)
@@ -63,15 +64,20 @@ def product(a, b):
     return result
 
 
-def power_of_three(exponent):
-    result = 1
-    for _ in range(exponent):
-        result = product(result, 3)
-    return result
-
-
-POINTS = [power_of_three(i) for i in range(16)]
 PRODUCTS = [[product(a, b) for b in range(256)] for a in range(256)]
+INVERSES = [products.index(1) if 1 in products else 0 for products in PRODUCTS]
+
+
+def powers(octet, count):
+    """The first so many, from the power 0 on."""
+    found = [1]
+    while len(found) < count:
+        found.append(PRODUCTS[found[-1]][octet])
+    return found
+
+
+THREES = powers(3, 255)
+POINTS = THREES[:16]
 
 
 def generator():
@@ -96,15 +102,76 @@ def parity(octets):
     return row[-16:]
 
 
+def value_at(row, point):
+    value = 0
+    for octet in row:
+        value = PRODUCTS[value][point] ^ octet
+    return value
+
+
 def is_right(row):
     """0 at the powers 0 to 15 of 3."""
-    for point in POINTS:
-        value = 0
-        for octet in row:
-            value = PRODUCTS[value][point] ^ octet
-        if value:
-            return False
-    return 16 <= len(row) <= 255
+    return 16 <= len(row) <= 255 and not any(value_at(row, point) for point in POINTS)
+
+
+def right_row(size, seed=1):
+    octets = pattern(size - 16, seed)
+    return octets + parity(octets)
+
+
+def distance(row, other):
+    assert len(row) == len(other), "rows of two lengths"
+    return sum(1 for octet, beside in zip(row, other) if octet != beside)
+
+
+def without(column, lead, equation):
+    by = PRODUCTS[equation[column]]
+    return [x ^ by[y] for x, y in zip(equation, lead)]
+
+
+def solved(equations, count):
+    """So many unknown bytes from linear equations, each its factors and then its sum; None if they don't agree."""
+    left = [list(equation) for equation in equations]
+    found = {}
+    for column in range(count):
+        leads = [equation for equation in left if equation[column]]
+        if not leads:
+            continue
+        by = PRODUCTS[INVERSES[leads[0][column]]]
+        lead = [by[factor] for factor in leads[0]]
+        left.remove(leads[0])
+        left = [without(column, lead, equation) for equation in left]
+        found = {at: without(column, lead, equation) for at, equation in found.items()}
+        found[column] = lead
+    if any(equation[-1] for equation in left):
+        return None
+    return [found[column][-1] if column in found else 0 for column in range(count)]
+
+
+def nearest(row):
+    """At how many places the row is wrong, eight at most, and the right row; None if there's none as near.
+
+    Wrong bytes at v places, eight at most, make values at the sixteen powers of which each follows from the v
+    ahead of it, by factors that tell the places, and there are no fewer from which it would.
+    """
+    values = [value_at(row, point) for point in POINTS]
+    for count in range(9):
+        factors = solved([values[at:at + count] + [values[at + count]] for at in range(16 - count)], count)
+        if factors is not None:
+            break
+    else:
+        return None
+    locator = [1] + factors[::-1]
+    places = [at for at in range(len(row)) if value_at(locator, THREES[len(row) - 1 - at]) == 0]
+    if len(places) != count:
+        return None
+    columns = [powers(THREES[len(row) - 1 - at], 16) for at in places]
+    amounts = solved([[column[i] for column in columns] + [values[i]] for i in range(16)], count)
+    right = list(row)
+    for at, amount in zip(places, amounts):
+        right[at] ^= amount
+    assert is_right(right) and distance(row, right) == count, "the test's own mending is wrong"
+    return count, right
 
 
 def crc(octets):
@@ -198,6 +265,21 @@ def parted(given):
         assert len(parts[-1]) == size, "an answer is cut short"
         at += 1 + size
     return parts
+
+
+def behind_other_calls(function, *handed):
+    """What the same call gives before and behind calls of all kinds."""
+    first = function(*handed)
+    codes.times(7, 255)
+    codes.times(256, 0)
+    rows = [changed(KNOWN_END, range(count)) for count in (0, 8, 9)]
+    for octets in rows + [[9] * 16, [], pattern(239), [5] * 300]:
+        codes.parity(octets)
+        codes.mend(octets)
+        codes.sum_of(octets)
+    codes.sum_of([0] * 65537)
+    answers(flat([put(0, pattern(300)), finish(0), tick(0), tick(1), came(1, changed(KNOWN_END, [4, 5]))]))
+    return first, function(*handed)
 
 
 def run(*calls):

@@ -5,7 +5,7 @@ import unittest
 import sureline.codes
 from sureline.codes import parity, times
 from tests import helper
-from tests.helper import KNOWN_END, Fixed, answers, changed, finish, flat, is_right, last, pattern, put, tick
+from tests.helper import KNOWN_END, Fixed, behind_other_calls, changed, is_right, last, pattern, put, tick
 
 
 def reckoned(a, b):
@@ -18,18 +18,6 @@ def reckoned(a, b):
         if whole >> bit & 1:
             whole ^= 0b100011011 << (bit - 8)
     return whole
-
-
-def behind_other_calls(function, *handed):
-    """The same call twice, with calls of all kinds between."""
-    first = function(*handed)
-    times(7, 255)
-    times(256, 0)
-    parity([])
-    parity(pattern(239, 7))
-    parity([5] * 240)
-    answers(flat([put(0, pattern(300)), finish(0), tick(0), tick(1)]))
-    return first, function(*handed)
 
 
 class Times(unittest.TestCase):
