@@ -1,6 +1,7 @@
 """The calls on one object with two ends: one list of whole numbers, answered call by call."""
 
 from sureline.linkend import LinkEnd
+from sureline.packets import NAMES
 from sureline.rows import Code
 
 BEGIN = 1
@@ -9,8 +10,6 @@ FINISH = 3
 TICK = 4
 CAME = 5
 TAKE = 6
-
-NAMES = 4294967296
 
 
 class Link:

@@ -8,6 +8,10 @@ BYTES = 1
 END = 2
 QUESTION = 3
 
+NAMES = 4294967296
+KINDS = 256
+NUMBERS = 18446744073709551616
+ROOMS = 65536
 PIECE = 190
 HEAD = 23
 SUM = 4
@@ -23,6 +27,13 @@ class Packet:
         self.wanted = wanted
         self.room = room
         self.octets = octets
+
+
+# Kinds that there aren't, and bytes that a kind hasn't, are within the bounds: only what comes is asked for these.
+def within_bounds(packet):
+    if packet.name >= NAMES or packet.kind >= KINDS or packet.room >= ROOMS:
+        return False
+    return packet.number < NUMBERS and packet.wanted < NUMBERS and len(packet.octets) <= PIECE
 
 
 def lowest_first(value, size):

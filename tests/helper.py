@@ -277,7 +277,10 @@ def behind_other_calls(function, *handed):
         codes.parity(octets)
         codes.mend(octets)
         codes.sum_of(octets)
+        codes.open_of(octets)
     codes.sum_of([0] * 65537)
+    codes.wire(1, 1, 2, 3, 4, pattern(190))
+    codes.wire(2 ** 32, 1, 2, 3, 4, pattern(191))
     answers(flat([put(0, pattern(300)), finish(0), tick(0), tick(1), came(1, changed(KNOWN_END, [4, 5]))]))
     return first, function(*handed)
 
